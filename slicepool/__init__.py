@@ -1,0 +1,1 @@
+"""The pool: work cut in slices, on a board that parties share without a lock."""
