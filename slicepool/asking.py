@@ -35,8 +35,9 @@ class Look(Running):
         return self.ended(board, 0)
 
     def go_on(self, board):
+        slot = slot_of(board, self.ticket)
         if has_phase(board, self.ticket, PHASE_OPEN):
-            slot_of(board, self.ticket).state = (stamp_of(self.ticket), PHASE_FINISHED)
+            slot.state = (stamp_of(self.ticket), PHASE_FINISHED)
         if has_phase(board, self.ticket, PHASE_FINISHED):
             return self.ended(board, 1)
         return [NOT_THERE]

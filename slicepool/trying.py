@@ -48,7 +48,8 @@ class Finishing(Trying):
     def finish(self, board):
         if not has_phase(board, self.ticket, PHASE_OPEN):
             return self.ended(0)
-        slot_of(board, self.ticket).state = (self.stamp, PHASE_FINISHED)
+        slot = slot_of(board, self.ticket)
+        slot.state = (self.stamp, PHASE_FINISHED)
         return self.ended(1)
 
 
