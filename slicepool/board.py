@@ -4,6 +4,7 @@ from slicepool.asking import Again, Look
 from slicepool.seeking import Offer, Take
 from slicepool.slots import Board, MARKS, STAMP
 from slicepool.trying import Clear, Done, Stop
+from slicepool.waking import Key, Sleep, Wake
 
 PARTIES = 4
 
@@ -14,6 +15,8 @@ DONE = 3
 STOP = 4
 LOOK = 5
 CLEAR = 6
+KEY = 7
+SLEEP = 8
 GO = 10
 GONE = 11
 BOARD = 12
@@ -27,11 +30,6 @@ IS_GONE = 2
 IS_BOARD = 3
 NO_PARTY = -1
 OUT_OF_TURN = -9
-
-
-# Of key, sleep and wake only the refusals are there yet.
-class NotBuilt(NotImplementedError):
-    pass
 
 
 class Line:
@@ -102,7 +100,11 @@ def new_call(place, numbers, job):
         return Look(place, numbers[1])
     if place == CLEAR:
         return Clear(place, numbers[1])
-    raise NotBuilt(place)
+    if place == KEY:
+        return Key(place)
+    if place == SLEEP:
+        return Sleep(place, numbers[1])
+    return Wake(place)
 
 
 def tell_board(board):

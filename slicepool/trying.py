@@ -1,4 +1,4 @@
-"""The calls that make tries on a word of a ticket's slot: done, stop and clear."""
+"""The tries on a word, and the calls that make them on a ticket's slot: done, stop and clear."""
 
 from slicepool.running import DISTURBED, GAP, NOT_THERE, NO_SUCH_SLICE, OUT_OF_RANGE, Running
 from slicepool.slots import GIVEN, MARKS, MARKS_OF_A_WORD, MOST_SLICES, PHASE_FINISHED, PHASE_FREE, PHASE_OPEN
@@ -9,20 +9,17 @@ ALREADY = 2
 
 # The tries; each call says by look_up, judge and write which word it is, its rule, and what is written.
 class Trying(Running):
-    def __init__(self, place, ticket):
+    def __init__(self, place):
         Running.__init__(self, place)
-        self.ticket = ticket
-        self.stamp = stamp_of(ticket)
         self.seen = None
 
     def attempt(self, board):
-        self.seen = self.look_up(slot_of(board, self.ticket))
+        self.seen = self.look_up(board)
         return self.judge()
 
     def compare(self, board):
-        slot = slot_of(board, self.ticket)
-        if self.look_up(slot) == self.seen:
-            return self.write(slot)
+        if self.look_up(board) == self.seen:
+            return self.write(board)
         if self.is_last_fail():
             return [DISTURBED]
         return self.attempt(board)
@@ -31,7 +28,9 @@ class Trying(Running):
 # Tries with the finishing behind them; each call says by ended what it tells with 0 and 1.
 class Finishing(Trying):
     def __init__(self, place, ticket):
-        Trying.__init__(self, place, ticket)
+        Trying.__init__(self, place)
+        self.ticket = ticket
+        self.stamp = stamp_of(ticket)
         self.written = False
 
     def go_on(self, board):
@@ -67,7 +66,8 @@ class Done(Finishing):
             return [NO_SUCH_SLICE]
         return self.attempt(board)
 
-    def look_up(self, slot):
+    def look_up(self, board):
+        slot = slot_of(board, self.ticket)
         return slot.words[self.k // MARKS_OF_A_WORD]
 
     def judge(self):
@@ -77,7 +77,8 @@ class Done(Finishing):
             return [ALREADY]
         return GAP
 
-    def write(self, slot):
+    def write(self, board):
+        slot = slot_of(board, self.ticket)
         slot.words[self.k // MARKS_OF_A_WORD] = (self.stamp, with_mark(self.seen[MARKS], self.k))
         return self.begin_finish(slot)
 
@@ -91,8 +92,8 @@ class Stop(Finishing):
             return [NOT_THERE]
         return self.attempt(board)
 
-    def look_up(self, slot):
-        return slot.giving
+    def look_up(self, board):
+        return slot_of(board, self.ticket).giving
 
     def judge(self):
         if self.seen[STAMP] != self.stamp:
@@ -101,7 +102,8 @@ class Stop(Finishing):
             return self.ended(ALREADY)
         return GAP
 
-    def write(self, slot):
+    def write(self, board):
+        slot = slot_of(board, self.ticket)
         slot.giving = (self.stamp, self.seen[GIVEN], 1)
         return self.begin_finish(slot)
 
@@ -110,20 +112,26 @@ class Stop(Finishing):
 
 
 class Clear(Trying):
+    def __init__(self, place, ticket):
+        Trying.__init__(self, place)
+        self.ticket = ticket
+        self.stamp = stamp_of(ticket)
+
     def begin(self, board):
         return self.attempt(board)
 
     def go_on(self, board):
         return self.compare(board)
 
-    def look_up(self, slot):
-        return slot.state
+    def look_up(self, board):
+        return slot_of(board, self.ticket).state
 
     def judge(self):
         if self.seen == (self.stamp, PHASE_FINISHED):
             return GAP
         return [NOT_THERE]
 
-    def write(self, slot):
+    def write(self, board):
+        slot = slot_of(board, self.ticket)
         slot.state = (self.stamp + 1, PHASE_FREE)
         return [0]

@@ -91,6 +91,79 @@ def used_up(party, t):
     return offered(party, 1) + taken(party) + finished(party, t, [0]) + cleared(party, t)
 
 
+def keyed(party):
+    return [key(party), go(party)]
+
+
+def woken(party):
+    return [wake(party), go(party)]
+
+
+def beginnings(party):
+    """Each of the calls that a party begins, in ways that find something and in ways that find nothing."""
+    return [offer(party, 1), offer(party, 0), offer(party, 2, 3, [4, 5, 6, 7]), take(party), again(party, 0),
+            done(party, 0, 0), done(party, 0, 32), stop(party, 0), look(party, 0), clear(party, 0),
+            key(party), sleep(party, 0), wake(party)]
+
+
+HALF_OPEN = offered(0, 3, 7, [5]) + taken(1, 2)
+READY = offered(0, 3, 7, [5]) + [stop(0, 0)] + gos(0, 2)
+
+# Each call of party 2 in each way through its gaps: what came before, the call, what others do in each of its gaps (so
+# there are as many gaps as lists), and how it ends.
+SCENES = {
+    "offer": ([], offer(2, 3, 4, [5]), [[], [], []], [1, 0, 0, 0]),
+    "offer in the second slot": (offered(0, 1), offer(2, 3, 4, [5]), [[], [], []], [1, 0, 0, 1]),
+    "offer disturbed": ([], offer(2, 3), [[offer(0, 1), go(0)], [], [], []], [1, 0, 0, 1]),
+    "offer disturbed twice": ([], offer(2, 3), [[offer(0, 1), go(0)], [offer(1, 1), go(1)]], [1, 0, -1]),
+    "offer without a slot": (offered(0, 1) + offered(1, 1), offer(2, 3), [], [1, 0, -1]),
+    "offer of no slices": ([], offer(2, 0), [], [1, 0, -4]),
+    "take": (HALF_OPEN, take(2), [[]], [1, 1, 0, 0, 2, 7, 5]),
+    "take disturbed": (offered(0, 9), take(2), [taken(1), []], [1, 1, 0, 0, 1, 0]),
+    "take disturbed twice": (offered(0, 9), take(2), [taken(1), taken(1), []], [1, 1, 0, 0, 2, 0]),
+    "take disturbed three times": (offered(0, 9), take(2), [taken(1)] * 3, [1, 1, -2]),
+    "take of nothing": ([], take(2), [], [1, 1, -1]),
+    "again": (HALF_OPEN, again(2, 0), [], [1, 2, 1, 0]),
+    "done": (HALF_OPEN, done(2, 0, 1), [[]], [1, 3, 0]),
+    "last done": (offered(0, 1) + taken(1), done(2, 0, 0), [[], []], [1, 3, 1]),
+    "done disturbed": (HALF_OPEN, done(2, 0, 1), [called_done(1, 0, [0]), []], [1, 3, 0]),
+    "last done disturbed twice": (HALF_OPEN + taken(1), done(2, 0, 1), [
+        called_done(1, 0, [0]), called_done(1, 0, [2]), [], []], [1, 3, 1]),
+    "last done and another's finish": (offered(0, 1) + taken(1), done(2, 0, 0), [[], [look(1, 0), go(1)]], [1, 3, 0]),
+    "done disturbed three times": (offered(0, 9) + taken(1, 4), done(2, 0, 3), [
+        called_done(1, 0, [k]) for k in range(3)], [1, 3, -2]),
+    "stop": (HALF_OPEN, stop(2, 0), [[]], [1, 4, 0, 2]),
+    "last stop": (offered(0, 3), stop(2, 0), [[], []], [1, 4, 1, 0]),
+    "stop disturbed": (offered(0, 9), stop(2, 0), [taken(1), []], [1, 4, 0, 1]),
+    "last stop disturbed twice": (offered(0, 9), stop(2, 0), [
+        taken(1), taken(1) + called_done(1, 0, [0, 1]), [], []], [1, 4, 1, 2]),
+    "stop disturbed three times": (offered(0, 9), stop(2, 0), [taken(1)] * 3, [1, 4, -2]),
+    "look": (offered(0, 3) + [stop(0, 0), go(0)], look(2, 0), [[]], [1, 5, 1, 0, 0]),
+    "look and another's finish": (offered(0, 3) + [stop(0, 0), go(0)], look(2, 0), [[go(0)]], [1, 5, 1, 0, 0]),
+    "look at what is not complete": (HALF_OPEN, look(2, 0), [], [1, 5, 0, 2, 0]),
+    "clear": (READY, clear(2, 0), [[]], [1, 6, 0]),
+    "clear and another's": (READY, clear(2, 0), [cleared(1, 0)], [1, 6, -1]),
+    "key": ([], key(2), [[]], [1, 7, 0, 1]),
+    "key at an odd event": (woken(0) + keyed(0), key(2), [[]], [1, 7, 0, 3]),
+    "key and another's wake": (keyed(0), key(2), [woken(1)], [1, 7, 0, 3]),
+    "sleep": (keyed(0), sleep(2, 1), [], [1, 8, 1]),
+    "wake": ([], wake(2), [[]], [1, 9, 0]),
+    "wake at an odd event": (keyed(0), wake(2), [[]], [1, 9, 1]),
+    "wake disturbed": (keyed(0), wake(2), [woken(1), []], [1, 9, 0]),
+    "wake disturbed twice": ([], wake(2), [woken(1), keyed(1), []], [1, 9, 1]),
+    "wake disturbed three times": ([], wake(2), [woken(1), keyed(1), woken(1)], [1, 9, -2]),
+}
+
+
+def gaps_of_scenes():
+    """Of each scene each of its gaps: its name, and the calls up to where party 2 stands at that gap."""
+    for name, (before, call, in_gaps, end) in SCENES.items():
+        calls = before + [call]
+        for others in in_gaps:
+            yield name, calls
+            calls = calls + others + [go(2)]
+
+
 def split(told):
     """The answers' one list, cut into a list for each call."""
     rows = []
@@ -118,6 +191,10 @@ class LineTest(unittest.TestCase):
         answered = run(calls)[len(before):]
         for place, (call, told) in enumerate(rows):
             self.assertEqual(answered[place], told, f"row {place}: {call}")
+
+    def event(self, calls):
+        """The event as the board tells it behind the calls."""
+        return run(calls + [board()])[-1][1]
 
     def slot(self, calls, number):
         """A slot as the board tells it behind the calls: state, next, how many, kind, words."""

@@ -3,7 +3,9 @@
 import random
 import unittest
 
-from lines import again, board, clear, done, go, gone, look, offer, run, stop, take
+from lines import again, board, clear, done, go, gone, key, look, offer, run, sleep, stop, take, wake
+
+MOST = 2 ** 53 - 1
 
 
 class Pool:
@@ -12,6 +14,7 @@ class Pool:
         self.giving = [(0, 0, False), (0, 0, False)]
         self.laid = [(0, 0, ()), (0, 0, ())]
         self.words = [[(0, frozenset())] * 4, [(0, frozenset())] * 4]
+        self.event = 0
 
     def limit(self, s):
         return self.giving[s][1] if self.giving[s][2] else self.laid[s][0]
@@ -26,7 +29,7 @@ class Pool:
         return set(range(self.limit(s))) <= self.marked(s)
 
     def tell(self):
-        row = [3, 0]
+        row = [3, self.event]
         for s in range(2):
             stamp, given, stopped = self.giving[s]
             row += [*self.state[s], stamp, given, int(stopped), self.laid[s][0], self.laid[s][1]]
@@ -189,7 +192,30 @@ def model_clear(pool, t):
     return answer if answer is not None else [0]
 
 
-MODELS = [model_offer, model_take, model_again, model_done, model_stop, model_look, model_clear]
+def model_key(pool):
+    yield
+    pool.event += 1 - pool.event % 2
+    return [0, pool.event]
+
+
+def model_sleep(pool, x):
+    return [int(pool.event == x)]
+    yield
+
+
+def model_wake(pool):
+    for attempt in range(3):
+        seen = pool.event
+        yield
+        if pool.event == seen:
+            # Behind a wake the event is even, whatever it was.
+            pool.event = 2 * (seen // 2) + 2
+            return [seen % 2]
+    return [-2]
+
+
+MODELS = [model_offer, model_take, model_again, model_done, model_stop, model_look, model_clear, model_key, model_sleep,
+          model_wake]
 
 
 class Model:
@@ -221,18 +247,22 @@ class Model:
         return [0]
 
 
-def any_call(chance, slices, tickets):
+def any_call(chance, slices, tickets, event):
     """A call of party 0 to 4, mostly going on with what is begun."""
-    party = chance.choice((0, 0, 0, 1, 1, 1, 2, 2, 2, 3, 3, 3, 4))
+    party = chance.choice((0, 0, 0, 1, 1, 1, 2, 2, 2, 3, 3, 3, chance.choice((4, MOST))))
     t = chance.choice(tickets)
     k = chance.choice(slices)
-    job = [chance.randrange(9) for number in range(chance.randrange(5))]
+    x = max(0, event - chance.randrange(3))
+    job = [chance.choice((0, 1, 9, MOST)) for number in range(chance.randrange(5))]
     return chance.choice((
-        offer(party, chance.choice(slices) + 1, chance.randrange(9), job), offer(party, chance.choice((0, 1, 32, 33))),
+        offer(party, chance.choice(slices) + 1, chance.choice((0, 8, MOST)), job),
+        offer(party, chance.choice((0, 1, 32, 33, MOST))),
         take(party), take(party), take(party), again(party, t), done(party, t, k), done(party, t, k),
-        done(party, t, chance.choice((31, 32, k + 1))), stop(party, t), look(party, t), clear(party, t),
-        clear(party, t), gone(party), board(),
-    ) + (go(party),) * 14)
+        done(party, t, chance.choice((31, 32, k + 1, MOST))), stop(party, t), look(party, t), clear(party, t),
+        clear(party, t), chance.choice((again, stop, look, clear))(party, MOST - chance.randrange(2)),
+        key(party), sleep(party, x), sleep(party, chance.choice((x, x + 1, MOST))), wake(party), wake(party),
+        gone(party), board(),
+    ) + (go(party),) * 18)
 
 
 class ModelTest(unittest.TestCase):
@@ -245,7 +275,7 @@ class ModelTest(unittest.TestCase):
             # Tickets near to those on the board, so that most calls find something.
             tickets = [max(0, 2 * stamp + s - 2 * chance.randrange(newest)) for s, (stamp, phase)
                        in enumerate(model.pool.state)]
-            calls.append(any_call(chance, slices, tickets))
+            calls.append(any_call(chance, slices, tickets, model.pool.event))
             told.append(model.answer(calls[-1]))
         self.assertEqual(run(calls), told, f"seed {seed}")
         return told
@@ -257,12 +287,41 @@ class ModelTest(unittest.TestCase):
                 seen[tuple(told[:3])] = True
         for end in ((0, 0), (0, -1), (0, -4), (1, 0), (1, -1), (1, -2), (2, 0), (2, 1), (2, -1), (3, 0), (3, 1),
                     (3, 2), (3, -1), (3, -3), (3, -4), (4, 0), (4, 1), (4, 2), (4, -1), (5, 0), (5, 1),
-                    (5, -1), (6, 0), (6, -1)):
+                    (5, -1), (6, 0), (6, -1), (7, 0), (8, 0), (8, 1), (9, 0), (9, 1), (9, -2)):
             self.assertIn((1,) + end, seen)
 
     def test_large_jobs(self):
         for seed in range(150):
             self.follow(seed, 400, tuple(range(32)), 1)
+
+    def test_the_longest_lists(self):
+        """Nine numbers are the most that a call has: 400 offers with whole jobs make a list of 3600."""
+        for seed in range(60):
+            chance = random.Random(seed)
+            model = Model()
+            calls = [offer(chance.randrange(5), chance.choice((0, 1, 32, 33)), MOST, [MOST - at for at in range(4)])
+                     for place in range(400)]
+            self.assertEqual(sum(len(call) for call in calls), 3600)
+            self.assertEqual(run(calls), [model.answer(call) for call in calls], f"seed {seed}")
+
+    def test_events(self):
+        """Only the calls on the event, so that many wakes stand at their gaps together."""
+        seen = {}
+        for seed in range(200):
+            chance = random.Random(seed)
+            model = Model()
+            calls = []
+            told = []
+            for place in range(400):
+                party = chance.randrange(4)
+                calls.append(chance.choice((key(party), wake(party), wake(party), gone(party), board(),
+                                            sleep(party, model.pool.event - chance.randrange(-1, 1)))
+                                           + (go(party),) * 6))
+                told.append(model.answer(calls[-1]))
+                seen[tuple(told[-1][:3])] = True
+            self.assertEqual(run(calls), told, f"seed {seed}")
+        for end in ((7, 0), (8, 0), (8, 1), (9, 0), (9, 1), (9, -2)):
+            self.assertIn((1,) + end, seen)
 
     def test_short_lines(self):
         for seed in range(600):

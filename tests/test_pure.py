@@ -2,7 +2,8 @@
 
 import unittest
 
-from lines import again, board, called_done, cleared, done, finished, go, look, offer, offered, stop, take, taken
+from lines import again, board, called_done, cleared, done, finished, go, gone, key, keyed, look, offer, offered, sleep
+from lines import stop, take, taken, wake, woken
 from slicepool.board import answers
 
 LINES = [
@@ -11,6 +12,7 @@ LINES = [
     offered(0, 3) + taken(1) + [stop(2, 0), take(1), done(3, 0, 0), go(2), go(3), go(3), go(1), board()],
     [offer(0, 1, 1, [9]), offer(1, 2, 2, [8]), go(1), go(0), go(0), go(1), board()],
     [take(4), go(0), offer(0, 0), take(3), board()],
+    woken(0) + keyed(1) + [sleep(2, 3), sleep(2, 2), wake(3), key(0), gone(0), wake(1), go(1), go(3), board()],
 ]
 
 
